@@ -1,0 +1,1 @@
+"""Widths of tables, and their lines."""
