@@ -62,3 +62,17 @@ def lay_cell(table, down, right, text):
 def end_row(table):
     table.rows += 1
     table.part_rows[-1] += 1
+
+
+def cells_in_row(table, row):
+    """The cells that cover this row, from left to right; none if there's no such row."""
+    covering = [cell for cell in table.cells if cell.row <= row < cell.row + cell.down]
+    return sorted(covering, key=lambda cell: cell.column)
+
+
+def cell_at(table, row, column):
+    """The cell that covers this place; None if it's no place of the table."""
+    for cell in cells_in_row(table, row):
+        if cell.column <= column < cell.column + cell.right:
+            return cell
+    return None

@@ -15,17 +15,22 @@ def table_width(widths):
     return columns_width(widths, 0, len(widths))
 
 
+def cell_width(cell, widths):
+    return columns_width(widths, cell.column, cell.right)
+
+
+def room_for_widths(page, columns):
+    """How much of the page is left for the widths of so many columns together."""
+    return page - GAP * (columns - 1)
+
+
 def column_badness(table, column, width):
     texts = [cell.text for cell in table.cells if cell.column == column and cell.right == 1]
     return sum([text_badness(text, width) for text in texts])
 
 
-def total_badness(table, widths):
-    return sum([column_badness(table, column, width) for column, width in enumerate(widths)])
-
-
 def cell_lines(cell, widths):
-    return break_text(cell.text, columns_width(widths, cell.column, cell.right))
+    return break_text(cell.text, cell_width(cell, widths))
 
 
 def row_heights(table, widths):

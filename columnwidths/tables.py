@@ -1,8 +1,11 @@
 """The calls, taken from one list of whole numbers, and their answers."""
 
 from columnwidths.breaking import break_text, count_cut_words
-from columnwidths.measures import column_badness, set_line_count, table_width, total_badness
+from columnwidths.finding import best_widths
+from columnwidths.layout import cell_at
+from columnwidths.measures import cell_lines, cell_width, room_for_widths, row_heights, set_line_count, table_width
 from columnwidths.reading import read_table
+from columnwidths.setting import set_text
 from columnwidths.sheet import LEFT, MIDDLE, MOST_WIDTH, RIGHT, Sheet, is_width
 from columnwidths.signs import is_cell_text
 
@@ -11,13 +14,18 @@ NOT_THERE = -2
 OUT_OF_RANGE = -5
 
 MOST_BREAKING_WIDTH = 200
+MOST_PAGE = 200
+
+
+def list_answer(numbers):
+    """A list or a text as it is answered."""
+    return [len(numbers)] + numbers
 
 
 def texts_answer(texts):
     answer = [len(texts)]
     for text in texts:
-        answer.append(len(text))
-        answer.extend(text)
+        answer.extend(list_answer(text))
     return answer
 
 
@@ -30,7 +38,7 @@ def answer_read(sheet, numbers, row):
 
 
 def answer_show(sheet, numbers, row):
-    return [len(sheet.text)] + sheet.text
+    return list_answer(sheet.text)
 
 
 def answer_broken(sheet, numbers, row):
@@ -74,13 +82,52 @@ def answer_badness(sheet, numbers, row):
         return [NOT_THERE]
     if not is_width(width):
         return [OUT_OF_RANGE]
-    return [column_badness(sheet.table, column, width)]
+    return [sheet.badness_at(column, width)]
 
 
 def answer_total(sheet, numbers, row):
     if not sheet.are_told_widths(row):
         return [WRONG_FORM]
-    return [total_badness(sheet.table, row), table_width(row)]
+    return [sheet.total_badness(row), table_width(row)]
+
+
+def answer_find(sheet, numbers, row):
+    page = numbers[0]
+    if page < 1 or page > MOST_PAGE:
+        return [OUT_OF_RANGE]
+    columns = sheet.table.columns
+    choices = [sheet.choices_of(column) for column in range(columns)]
+    widths = best_widths(choices, room_for_widths(page, columns))
+    if widths is None:
+        return [0]
+    sheet.widths = widths
+    return [1, sheet.total_badness(widths)] + list_answer(widths)
+
+
+def answer_put(sheet, numbers, row):
+    if not sheet.are_told_widths(row):
+        return [WRONG_FORM]
+    sheet.widths = row
+    return [sheet.total_badness(row), table_width(row)]
+
+
+def answer_widths(sheet, numbers, row):
+    return list_answer(sheet.widths)
+
+
+def answer_heights(sheet, numbers, row):
+    return list_answer(row_heights(sheet.table, sheet.widths))
+
+
+def answer_lines(sheet, numbers, row):
+    cell = cell_at(sheet.table, numbers[0], numbers[1])
+    if cell is None:
+        return [NOT_THERE]
+    return [cell_width(cell, sheet.widths)] + texts_answer(cell_lines(cell, sheet.widths))
+
+
+def answer_set(sheet, numbers, row):
+    return list_answer(set_text(sheet))
 
 
 def answer_size(sheet, numbers, row):
@@ -97,6 +144,12 @@ CALLS = {
     4: (answer_side, 2, False),
     5: (answer_badness, 2, False),
     6: (answer_total, 0, True),
+    7: (answer_find, 1, False),
+    8: (answer_put, 0, True),
+    9: (answer_widths, 0, False),
+    10: (answer_heights, 0, False),
+    11: (answer_lines, 2, False),
+    12: (answer_set, 0, False),
     13: (answer_size, 0, False),
 }
 

@@ -40,6 +40,30 @@ def total(widths):
     return [6, len(widths)] + list(widths)
 
 
+def find(page):
+    return [7, page]
+
+
+def put(told):
+    return [8, len(told)] + list(told)
+
+
+def widths():
+    return [9]
+
+
+def heights():
+    return [10]
+
+
+def lines(row, column):
+    return [11, row, column]
+
+
+def set_lines():
+    return [12]
+
+
 def size():
     return [13]
 
@@ -64,9 +88,18 @@ def last(*calls):
     return ask(*calls)[-1]
 
 
-def table(columns, *lines):
+def ask_behind(before, calls):
+    """The answers to the calls, however many, each one on an object on which those before were made."""
+    asked = []
+    step = 40 - len(before)
+    for at in range(0, len(calls), step):
+        asked += ask(*before, *calls[at:at + step])[len(before):]
+    return asked
+
+
+def table(columns, *rows):
     """The text of a table with these lines behind its first one."""
-    return "".join(line + "\n" for line in (f"@table {columns}",) + lines)
+    return "".join(line + "\n" for line in (f"@table {columns}",) + rows)
 
 
 def texts(*told):
@@ -75,3 +108,23 @@ def texts(*told):
     for text in told:
         numbers += text_of(text)
     return numbers
+
+
+def list_of(told):
+    """How a list is answered."""
+    return [len(told)] + list(told)
+
+
+def told_set(*rows):
+    """How these lines of a set table are answered."""
+    return text_of("".join(line + "\n" for line in rows))
+
+
+def set_rows(answer):
+    """The lines that a set table was answered with."""
+    if answer[0] != len(answer) - 1:
+        raise AssertionError("a count that is not the text's")
+    text = bytes(answer[1:]).decode("ascii")
+    if not text.endswith("\n"):
+        raise AssertionError("a last line that is not ended")
+    return text[:-1].split("\n")

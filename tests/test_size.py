@@ -1,6 +1,6 @@
 import unittest
 
-from tests.helper import EXAMPLE, ask, last, limit, read, side, size, table
+from tests.helper import EXAMPLE, ask, find, heights, last, limit, put, read, set_lines, set_rows, side, size, table
 
 
 class Size(unittest.TestCase):
@@ -36,6 +36,21 @@ class Size(unittest.TestCase):
 
     def test_limits_and_sides_do_not_matter(self):
         self.assertEqual(ask(read(EXAMPLE), limit(0, 40, 40), side(0, 2), size())[3], [2, 3, 23, 4])
+
+    def test_widths_that_were_put_or_found(self):
+        asked = ask(read(EXAMPLE), put([1, 1]), size(), find(17), size(), put([40, 40]), size(), read(EXAMPLE), size())
+        self.assertEqual(asked[2::2], [[2, 3, 5, 18], [2, 3, 17, 5], [2, 3, 83, 4], [2, 3, 23, 4]])
+
+    def test_lines_that_set_tells(self):
+        spread = table(3, "@head", "^1x3 a head over all", "@group", "^3x1 goes down three rows | b | c", "d | ^2x1 e f g h",
+                       "i", "@group", "^2x2 | x", "", "@foot", " |  | the end")
+        for text, columns in ((EXAMPLE, 2), (spread, 3)):
+            for width in (1, 2, 3, 5, 8, 40):
+                asked = ask(read(text), put([width] * columns), size(), set_lines(), heights())
+                rows = set_rows(asked[3])
+                with self.subTest(text=text, width=width):
+                    self.assertEqual(asked[2], [columns, asked[0][1], len(rows[0]), len(rows)])
+                    self.assertEqual(len(rows), sum(asked[4][1:]) + text.count("@") - 2)
 
 
 if __name__ == "__main__":
